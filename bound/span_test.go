@@ -280,7 +280,7 @@ func each(r *rand.Rand, a, b, c api.Span, f func(x, y, z *big.Rat) *big.Rat) []*
 	return l
 }
 
-// What is told is the least span of what comes out at many numbers, the ends among them: it holds them all, and no lesser one does.
+// N1: what is told is the least span of what comes out at many numbers, the ends among them: it holds them all, and no lesser one does.
 func TestP1_6Inside(t *testing.T) {
 	r := rand.New(rand.NewSource(1))
 	for range 4000 {
